@@ -4,6 +4,7 @@ WRONG = -1
 MISSING = -2
 ALREADY = -3
 FULL = -5
+NONE_SUCH = -6
 
 LAST_DAY = 60000
 GREATEST_WORD = 99999
@@ -25,6 +26,11 @@ def is_span(start, end):
     return end == 0 or end > start
 
 
+def is_in_force(thing, day):
+    """Whether a definition or a rule is in force on a day."""
+    return thing.start <= day and (thing.end == 0 or day < thing.end)
+
+
 def is_word(number):
     return 1 <= number <= GREATEST_WORD
 
@@ -34,6 +40,11 @@ def are_words(numbers):
     if len(numbers) > MOST_WORDS:
         return False
     return all([is_word(number) for number in numbers])
+
+
+def is_named_statement(number):
+    """Whether this is a statement above 0, which alone are named and have remedies."""
+    return 1 <= number <= GREATEST_STATEMENT
 
 
 def is_statement(number):

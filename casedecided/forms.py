@@ -13,6 +13,19 @@ EASTERS = 9
 CLOSED = 10
 WAY = 11
 SCALE = 12
+RATE = 13
+AMOUNT = 14
+EVENT = 15
+BRING = 16
+TAKE = 17
+REMEDY = 18
+FACTS = 19
+ASK = 20
+WHY = 21
+CASE = 22
+OWED = 23
+DIFFERS = 24
+TURNS = 25
 
 # Of each call, by its number: how many whole numbers it has, and whether a row stands behind them.
 FORMS = (
@@ -29,6 +42,19 @@ FORMS = (
     (1, False),
     (3, False),
     (5, True),
+    (3, False),
+    (1, False),
+    (1, False),
+    (2, True),
+    (1, False),
+    (7, False),
+    (1, False),
+    (2, False),
+    (2, False),
+    (1, False),
+    (1, False),
+    (2, False),
+    (2, False),
 )
 
 

@@ -59,6 +59,28 @@ class Scale:
         self.brackets = brackets
 
 
+class Proof:
+    """Words, at a part, that are brought forward: that it's so (1), or isn't (0)."""
+
+    def __init__(self, part, so, words):
+        self.part = part
+        self.so = so
+        self.words = words
+
+
+class Remedy:
+    """What a statement entitles to, and the span (so many of a unit) behind the event in which it may be claimed."""
+
+    def __init__(self, statement, scale, amount, event, way, unit, many):
+        self.statement = statement
+        self.scale = scale
+        self.amount = amount
+        self.event = event
+        self.way = way
+        self.unit = unit
+        self.many = many
+
+
 class House:
     """One house of laws, which at its beginning has the law's whole alone."""
 
@@ -77,3 +99,9 @@ class House:
         self.closed = []
         self.ways = []
         self.scales = []
+        # Of each rate from which day on it is, and its two numbers; they rise by their days.
+        self.rates = []
+        self.amounts = []
+        self.events = []
+        self.proofs = []
+        self.remedies = []

@@ -61,6 +61,64 @@ def scale(slices=0, rounding=0, unit=1, least=0, most=0, brackets=((0, 1, 2),)):
     return [12, slices, rounding, unit, least, most, len(row), *row]
 
 
+def rate(start=0, above=1, below=100):
+    return [13, start, above, below]
+
+
+def amount(number=1000):
+    return [14, number]
+
+
+def event(day=0):
+    return [15, day]
+
+
+def bring(part=0, so=1, words=(1,)):
+    return [16, part, so, len(words), *words]
+
+
+def take(proof):
+    return [17, proof]
+
+
+def remedy(statement=1, scale=0, amount=0, event=0, way=0, unit=0, many=1):
+    return [18, statement, scale, amount, event, way, unit, many]
+
+
+def facts(day=0):
+    return [19, day]
+
+
+def ask(day=0, statement=1):
+    return [20, day, statement]
+
+
+def why(day=0, statement=1):
+    return [21, day, statement]
+
+
+def case(day=0):
+    return [22, day]
+
+
+def owed(day=0):
+    return [23, day]
+
+
+def differs(day, other):
+    return [24, day, other]
+
+
+def turns(day=0, statement=1):
+    return [25, day, statement]
+
+
+def proving(*statements):
+    """Calls that make these statements facts on each day; a statement's word is its own number."""
+    named = [name(statement, 0, [statement]) for statement in sorted({abs(statement) for statement in statements})]
+    return named + [bring(0, 1 if statement > 0 else 0, [abs(statement)]) for statement in statements]
+
+
 def joined(calls):
     return [number for call in calls for number in call]
 
@@ -87,6 +145,10 @@ def numbers(*calls):
 
 def last(*calls):
     return numbers(*calls)[-1]
+
+
+def last_answer(*calls):
+    return answered(*calls)[-1]
 
 
 class Chooser:
@@ -135,8 +197,14 @@ class Chooser:
         return scale(self.below(2), self.below(4), self.one(0, 1, 1000000, 1000001), self.one(0, 5, 10 ** 9),
                      self.one(0, 4, 5, 10 ** 9, 10 ** 9 + 1), brackets)
 
+    def remedy(self):
+        unit = self.one(0, 1, 2, 3, 4, *([5, TOP] if self.below(6) == 0 else [0]))
+        return remedy(abs(self.statement()), self.small(), self.small(), self.small(), self.small(), unit,
+                      self.one(0, 1, 99, 100, 999, 1000, 9999, 10000))
+
     def call(self):
-        kind = self.one(*range(1, 13))
+        """One that tells something."""
+        kind = self.one(*range(1, 19))
         made = {
             1: lambda: part(self.part(), self.words(28)),
             2: lambda: define(self.part(), self.word(), self.day(), self.end(), self.words(25)),
@@ -150,8 +218,28 @@ class Chooser:
             10: lambda: closed(self.day()),
             11: lambda: way(self.below(2), self.small(), self.small()),
             12: self.scale,
+            13: lambda: rate(self.day(), self.one(0, 10000, 10001), self.one(0, 1, 10000, 10001)),
+            14: lambda: amount(self.one(0, 5, 1000000000, 1000000001, TOP)),
+            15: lambda: event(self.day()),
+            16: lambda: bring(self.part(), self.below(2), self.words(27)),
+            17: lambda: take(self.small()),
+            18: self.remedy,
+        }
+        return made[kind]()
+
+    def question(self):
+        kind = self.one(19, 20, 21, 22, 23, 24, 25)
+        made = {
+            19: lambda: facts(self.day()),
+            20: lambda: ask(self.day(), self.statement()),
+            21: lambda: why(self.day(), self.statement()),
+            22: lambda: case(self.day()),
+            23: lambda: owed(self.day()),
+            24: lambda: differs(self.day(), self.day()),
+            25: lambda: turns(self.day(), self.statement()),
         }
         return made[kind]()
 
     def calls(self, size):
-        return [self.call() for place in range(size)]
+        """Calls that tell something, with a few among them that ask."""
+        return [self.question() if self.below(8) == 0 else self.call() for place in range(size)]

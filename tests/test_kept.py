@@ -5,8 +5,9 @@ import unittest
 
 from casedecided.forms import read_call
 from casedecided.house import House
-from casedecided.laws import tell
-from helper import (Chooser, closed, define, easters, first, name, order, part, rule, scale, way, week, yearly)
+from casedecided.laws import look_up, tell
+from helper import (Chooser, amount, bring, closed, define, easters, event, first, name, order, part, rate, remedy,
+                    rule, scale, take, way, week, yearly)
 
 
 def contents(house):
@@ -22,7 +23,10 @@ class Kept(unittest.TestCase):
     def tell(self, *calls):
         for call in calls:
             read = read_call(call, 0)
-            self.answer = tell(self.house, read.number, read.numbers, read.row)
+            if read.number < 19:
+                self.answer = tell(self.house, read.number, read.numbers, read.row)
+            else:
+                self.asked = look_up(self.house, read.number, read.numbers)
 
     def kept(self, key):
         return contents(self.house)[key]
@@ -93,13 +97,46 @@ class Kept(unittest.TestCase):
             {"slices": 1, "rounding": 2, "unit": 3, "least": 4, "most": 5, "brackets": [(0, 6, 7), (8, 9, 10)]},
         ])
 
+    def test_rates(self):
+        self.tell(rate(5, 2, 4), rate(5, 1, 1), rate(6, 10001, 1), rate(9, 0, 7))
+        self.assertEqual(self.kept("rates"), [(5, 2, 4), (9, 0, 7)])
+
+    def test_amounts_and_events(self):
+        self.tell(amount(7), event(8), amount(1000000001), event(60001), amount(0), event(60000))
+        self.assertEqual(self.kept("amounts"), [7, 0])
+        self.assertEqual(self.kept("events"), [8, 60000])
+
+    def test_proofs(self):
+        self.tell(bring(0, 1, [3, 4]), bring(1, 1, [3]), bring(0, 0, [5]), take(2), bring(0, 0, [6]), take(1))
+        self.assertEqual(self.kept("proofs"), [
+            {"part": 0, "so": 1, "words": [3, 4]},
+            {"part": 0, "so": 0, "words": [6]},
+        ])
+
+    def test_remedies(self):
+        self.tell(scale(), amount(), amount(), event(), event(), event(), way(), remedy(9, 0, 1, 2, 0, 3, 99),
+                  remedy(9, 0, 1, 2, 0, 3, 100), remedy(9, 1, 1, 2, 0, 3, 99))
+        self.assertEqual(self.kept("remedies"), [
+            {"statement": 9, "scale": 0, "amount": 1, "event": 2, "way": 0, "unit": 3, "many": 99},
+        ])
+
+    def test_what_is_asked_changes_nothing(self):
+        for seed in range(60):
+            chooser = Chooser(seed)
+            self.house = House()
+            self.tell(*[chooser.call() for place in range(60)])
+            before = contents(self.house)
+            self.tell(*[chooser.question() for place in range(20)])
+            self.assertEqual(contents(self.house), before)
+
     def test_a_refusal_changes_nothing(self):
         refused = 0
         for seed in range(100):
             self.house = House()
-            for call in Chooser(seed).calls(80):
+            chooser = Chooser(seed)
+            for place in range(80):
                 before = contents(self.house)
-                self.tell(call)
+                self.tell(chooser.call())
                 if self.answer < 0:
                     refused = refused + 1
                     self.assertEqual(contents(self.house), before)
@@ -107,7 +144,7 @@ class Kept(unittest.TestCase):
 
     def test_nothing_kept_is_the_list_that_was_handed_in(self):
         for call, key in [(define(body=[3]), "definitions"), (name(words=[3]), "names"), (week(3), "week"),
-                          (rule(conditions=[3]), "rules")]:
+                          (rule(conditions=[3]), "rules"), (bring(words=[3]), "proofs")]:
             with self.subTest(key=key):
                 self.tell(call)
                 before = contents(self.house)
