@@ -32,6 +32,9 @@ WORDS = re.compile(r"\b(type|typing|typing_extensions|enum|Enum|IntEnum|StrEnum|
 DUNDERS = {"__init__", "__eq__", "__repr__", "__str__", "__len__"}
 WALKED = {"zip", "enumerate", "reversed", "range"}
 WALKERS = {"list", "tuple", "dict", "sorted", "sum", "any", "all", "enumerate", "zip", "min", "max"}
+CHANGING = set("append clear extend insert pop remove reverse setdefault update".split())
+KEYWORDS = {"sorted": {"key", "reverse"}, "min": {"key", "default"}, "max": {"key", "default"}, "sum": {"start"},
+            "enumerate": {"start"}, "zip": {"strict"}}
 FILE_NAMES = re.compile(r"(__init__|__main__|[a-z][a-z0-9_]*)\.py\Z")
 NO_FILE = re.compile(r"(test|tests|testing|test_.*|site|conftest|sitecustomize|usercustomize)\Z")
 
@@ -221,6 +224,57 @@ class Form(unittest.TestCase):
                     self.assertEqual(outer.keywords, [])
                 else:
                     self.assertIsInstance(outer, (ast.Compare, ast.BinOp))
+
+    def test_what_a_loop_walks_is_not_changed_in_it(self):
+        for file, node in self.each(ast.For):
+            walked = [ast.unparse(node.iter)]
+            if isinstance(node.iter, ast.Call) and isinstance(node.iter.func, ast.Name):
+                walked += [ast.unparse(arg) for arg in node.iter.args]
+            for inner in ast.walk(node):
+                if isinstance(inner, ast.Call) and isinstance(inner.func, ast.Attribute):
+                    if inner.func.attr in CHANGING:
+                        self.assertNotIn(ast.unparse(inner.func.value), walked)
+                if isinstance(inner, ast.Subscript) and isinstance(inner.ctx, ast.Store):
+                    self.assertNotIn(ast.unparse(inner.value), walked)
+
+    def test_keywords(self):
+        own = {name for file in FILES.values() for name in file.defs}
+        for file, node in self.each(ast.Call):
+            names = {keyword.arg for keyword in node.keywords}
+            if isinstance(node.func, ast.Name):
+                if node.func.id not in own:
+                    self.assertLessEqual(names, KEYWORDS.get(node.func.id, set()))
+            else:
+                self.assertEqual(names, set())
+
+    def test_values_at_the_top_do_not_nest_and_are_not_changed(self):
+        for file, node in self.each(ast.Assign):
+            if node in file.tree.body and isinstance(node.value, (ast.List, ast.Dict)):
+                for inner in list(ast.walk(node.value))[1:]:
+                    self.assertNotIsInstance(inner, (ast.List, ast.Dict))
+        for file, node in self.each(ast.Subscript, ast.Attribute):
+            if isinstance(node.ctx, ast.Store):
+                self.assertNotIn(ast.unparse(node.value), file.values + file.drawn + file.classes)
+
+    def test_errors_and_powers(self):
+        for file, node in self.each(ast.Raise):
+            self.assertIsInstance(node.exc, ast.Call)
+        for file, node in self.each(ast.ExceptHandler):
+            self.assertNotIn(ast.unparse(node.type), ("Exception", "TypeError"))
+        for file, node in self.each(ast.Pow, ast.AnnAssign):
+            self.fail("a power or an annotation")
+        for file, node in self.each(ast.FunctionDef):
+            self.assertIsNone(node.returns)
+            self.assertEqual([arg.arg for arg in node.args.args if arg.annotation is not None], [])
+
+    def test_classes_are_only_called_or_named_where_they_may_be(self):
+        classes = {name for file in FILES.values() for name in file.classes}
+        for file, node in self.each(ast.Name):
+            if node.id in classes:
+                outer = file.parents[node]
+                self.assertTrue(isinstance(outer, (ast.ClassDef, ast.ExceptHandler))
+                                or isinstance(outer, ast.Call) and outer.func is node
+                                or isinstance(outer, ast.Call) and outer.func.id == "isinstance")
 
 
 if __name__ == "__main__":
